@@ -2,30 +2,37 @@
 
 from laystones.catalogues import is_right_catalogue, read_catalogue
 from laystones.lines import read_lines
+from laystones.orders import first_order, first_wrong_place
 from laystones.rooms import owners_of_places
 from laystones.stacks import is_in_mask, least_line_in_ring, least_line_without_hold, lines_under
 
 MOST_BUILD_BYTES = 16384
+MOST_ROW_NUMBERS = 256
 
+OUT_OF_BOUNDS = -1
 TOO_LONG = -2
+CANNOT_BE_BUILT = -3
 NO_SUCH_LINE = -4
 NO_BUILD_TEXT = -5
 NO_CATALOGUE_TEXT = -6
 CATALOGUE_NOT_RIGHT = -8
 BUILD_NOT_RIGHT = -9
 
+IN_RING = 1
+WITHOUT_HOLD = 2
+
 
 class Reading:
-    """What the two texts tell: a refusal, or 0, how many lines there are, and whose cell is at each place."""
+    """What the two texts tell: a refusal, or 0, whose cell is at each place, and of each line those it is over."""
 
-    def __init__(self, refusal, count, owners):
+    def __init__(self, refusal, owners, under):
         self.refusal = refusal
-        self.count = count
         self.owners = owners
+        self.under = under
 
 
 def refused(refusal):
-    return Reading(refusal, 0, {})
+    return Reading(refusal, {}, [])
 
 
 def read_build(c, b):
@@ -43,17 +50,39 @@ def read_build(c, b):
     owners = owners_of_places(lines)
     if owners is None:
         return refused(BUILD_NOT_RIGHT)
-    return Reading(0, len(lines), owners)
+    return Reading(0, owners, lines_under(owners, len(lines)))
+
+
+def with_line(i, build):
+    """The build as it was read, but refused if there is no line i."""
+    if build.refusal < 0 or i < len(build.under):
+        return build
+    return refused(NO_SUCH_LINE)
+
+
+def hindrance(build):
+    """Why the build can't be built, and the least line of which that holds; None if it can."""
+    ringed = least_line_in_ring(build.under)
+    if ringed is not None:
+        return [IN_RING, ringed]
+    loose = least_line_without_hold(build.owners, len(build.under))
+    if loose is not None:
+        return [WITHOUT_HOLD, loose]
+    return None
+
+
+def that_can_be_built(build):
+    """The build as it was read, but refused if it can't be built."""
+    if build.refusal < 0 or hindrance(build) is None:
+        return build
+    return refused(CANNOT_BE_BUILT)
 
 
 def over(i, j, c, b):
-    build = read_build(c, b)
+    build = with_line(j, with_line(i, read_build(c, b)))
     if build.refusal < 0:
         return [build.refusal]
-    if i >= build.count or j >= build.count:
-        return [NO_SUCH_LINE]
-    under = lines_under(build.owners, build.count)
-    if is_in_mask(j, under[i]):
+    if is_in_mask(j, build.under[i]):
         return [1]
     return [0]
 
@@ -62,10 +91,26 @@ def can(c, b):
     build = read_build(c, b)
     if build.refusal < 0:
         return [build.refusal]
-    ringed = least_line_in_ring(lines_under(build.owners, build.count))
-    if ringed is not None:
-        return [1, 1, ringed]
-    loose = least_line_without_hold(build.owners, build.count)
-    if loose is not None:
-        return [1, 2, loose]
-    return [0]
+    found = hindrance(build)
+    if found is None:
+        return [0]
+    return [1] + found
+
+
+def order(c, b):
+    build = that_can_be_built(read_build(c, b))
+    if build.refusal < 0:
+        return [build.refusal]
+    return first_order(build.under)
+
+
+def checks(c, b, o):
+    if len(o) > MOST_ROW_NUMBERS:
+        return [OUT_OF_BOUNDS]
+    build = that_can_be_built(read_build(c, b))
+    if build.refusal < 0:
+        return [build.refusal]
+    place = first_wrong_place(o, build.under)
+    if place is None:
+        return [0]
+    return [1, place]

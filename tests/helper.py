@@ -1,6 +1,6 @@
 """Small makers of texts, shared by the tests."""
 
-from laystones.builds import can, over
+from laystones.builds import can, checks, order, over
 
 
 def text(letters):
@@ -30,6 +30,25 @@ def can_of(catalogue, written_build):
 def over_of(i, j, catalogue, written_build):
     return over(i, j, text(catalogue), text(written_build))
 
+
+def order_of(catalogue, written_build):
+    return order(text(catalogue), text(written_build))
+
+
+def checks_of(row, catalogue, written_build):
+    return checks(text(catalogue), text(written_build), row)
+
+
+def snake_puts():
+    """256 steps, two layers high, each with its higher end over the lower end of the next one."""
+    puts = []
+    for y in range(0, 16, 4):
+        puts += [put("step", x, y, 0, 0) for x in range(0, 62, 2)] + [put("step", 62, y, 0, 3)]
+        puts += [put("step", x, y + 2, 0, 2) for x in range(60, -1, -2)] + [put("step", 0, y + 2, 0, 3)]
+    return puts
+
+
+MOST = 18446744073709551615
 
 # Their names rise, as a right catalogue's do.
 BENT = part("bent", "#./##")

@@ -153,6 +153,8 @@ class Interface(unittest.TestCase):
         }
         self.assertEqual(arguments["over"], ["i", "j", "c", "b"])
         self.assertEqual(arguments["can"], ["c", "b"])
+        self.assertEqual(arguments["order"], ["c", "b"])
+        self.assertEqual(arguments["checks"], ["c", "b", "o"])
 
 
 if __name__ == "__main__":

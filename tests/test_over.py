@@ -2,9 +2,7 @@
 
 import unittest
 
-from tests.helper import PARTS, build, over_of, put
-
-MOST = 18446744073709551615
+from tests.helper import MOST, PARTS, build, over_of, put
 
 
 class Over(unittest.TestCase):

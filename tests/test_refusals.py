@@ -2,114 +2,152 @@
 
 import unittest
 
-from laystones.builds import can, over
-from tests.helper import PARTS, build, part, put, text
-
-MOST = 18446744073709551615
+from laystones.builds import can, checks, order, over
+from tests.helper import MOST, PARTS, build, part, put, text
 
 NO_CATALOGUE = text("part a 1 1 1 0\n#\n")
 NOT_RIGHT_CATALOGUE = text(part("cube", "#.#"))
 CATALOGUE = text(PARTS)
 
-TOO_LONG = text(build(put("cube", 0, 0, 0))) + [10] * 16384
+TOO_LONG = (text(build(put("cube", 0, 0, 0))) + [10] * 16384)[:16400]
 NO_BUILD = text(build(put("cube", 0, 0, 96)))
 NOT_RIGHT_BUILD = text(build(put("cube", 0, 0, 0), put("cube", 0, 0, 0)))
+HOVERING = text(build(put("cube", 0, 0, 5), put("cube", 0, 0, 7)))
+RING = text(build(put("clamp", 0, 0, 0), put("cube", 1, 0, 1)))
 BUILD = text(build(put("cube", 0, 0, 0), put("cube", 0, 0, 1)))
+
+CATALOGUES = ([], NO_CATALOGUE, NOT_RIGHT_CATALOGUE, CATALOGUE)
+BUILDS = ([], TOO_LONG, NO_BUILD, NOT_RIGHT_BUILD, HOVERING, RING, BUILD)
+
+# Lines that are there, and lines that are not.
+LINE_PAIRS = ((0, 0), (1, 0), (0, 2), (0, MOST), (MOST, 0), (MOST, MOST))
+# An order, and rows that are none.
+ROWS = ((0, 1), (1, 0), (), (0,), (2,), (MOST,), (0,) * 256)
+LONG_ROWS = ((0,) * 257, (MOST,) * 257, tuple(range(300)))
+
+
+def each_answer(c, b):
+    """What every call answers to these texts, but to rows that are too long."""
+    answers = [can(c, b), order(c, b)]
+    answers += [over(i, j, c, b) for i, j in LINE_PAIRS]
+    answers += [checks(c, b, list(row)) for row in ROWS]
+    return answers
 
 
 class Refusals(unittest.TestCase):
-    def both(self, c, b, refusal):
-        self.assertEqual(can(c, b), [refusal])
-        # Lines that are there, and lines that are not: -4 is looked at behind all of these.
-        for i, j in ((0, 0), (1, 0), (0, MOST), (MOST, 0), (MOST, MOST)):
-            self.assertEqual(over(i, j, c, b), [refusal])
+    def all_refused(self, c, b, refusal):
+        for answer in each_answer(c, b):
+            self.assertEqual(answer, [refusal])
+
+    def test_long_row_ahead_of_all(self):
+        for c in CATALOGUES:
+            for b in BUILDS:
+                for row in LONG_ROWS:
+                    self.assertEqual(checks(c, b, list(row)), [-1])
 
     def test_length_first(self):
-        for c in ([], NO_CATALOGUE, NOT_RIGHT_CATALOGUE, CATALOGUE):
-            self.both(c, TOO_LONG[:16400], -2)
+        for c in CATALOGUES:
+            self.all_refused(c, TOO_LONG, -2)
 
     def test_catalogue_text_second(self):
         for c in ([], NO_CATALOGUE):
-            for b in ([], NO_BUILD, NOT_RIGHT_BUILD, BUILD):
-                self.both(c, b, -6)
+            for b in ([], NO_BUILD, NOT_RIGHT_BUILD, HOVERING, RING, BUILD):
+                self.all_refused(c, b, -6)
 
     def test_catalogue_third(self):
-        for b in ([], NO_BUILD, NOT_RIGHT_BUILD, BUILD):
-            self.both(NOT_RIGHT_CATALOGUE, b, -8)
+        for b in ([], NO_BUILD, NOT_RIGHT_BUILD, HOVERING, RING, BUILD):
+            self.all_refused(NOT_RIGHT_CATALOGUE, b, -8)
 
     def test_build_text_fourth(self):
         for b in ([], NO_BUILD):
-            self.both(CATALOGUE, b, -5)
+            self.all_refused(CATALOGUE, b, -5)
 
     def test_build_fifth(self):
-        self.both(CATALOGUE, NOT_RIGHT_BUILD, -9)
+        self.all_refused(CATALOGUE, NOT_RIGHT_BUILD, -9)
 
-    def test_line_last(self):
+    def test_line_behind_these(self):
         self.assertEqual(over(1, 0, CATALOGUE, BUILD), [1])
         self.assertEqual(over(2, 0, CATALOGUE, BUILD), [-4])
+
+    def test_what_cannot_be_built_last(self):
+        for b in (HOVERING, RING):
+            self.assertEqual(order(CATALOGUE, b), [-3])
+            for row in ROWS:
+                self.assertEqual(checks(CATALOGUE, b, list(row)), [-3])
+
+    def test_nothing_to_refuse(self):
         self.assertEqual(can(CATALOGUE, BUILD), [0])
+        self.assertEqual(order(CATALOGUE, BUILD), [0, 1])
+        self.assertEqual(checks(CATALOGUE, BUILD, [0, 1]), [0])
+        self.assertEqual(checks(CATALOGUE, BUILD, [1, 0]), [1, 0])
 
     def test_whole_catalogue_text_before_its_parts(self):
         wrong_then_none = part("a", "#.#") + "part b 1 1 1 1\n"
-        self.both(text(wrong_then_none), BUILD, -6)
+        self.all_refused(text(wrong_then_none), BUILD, -6)
 
     def test_whole_build_text_before_its_lines(self):
         beyond_then_none = build(put("long", 63, 0, 0), put("nothing", 0, 0, 0))
-        self.both(CATALOGUE, text(beyond_then_none), -5)
+        self.all_refused(CATALOGUE, text(beyond_then_none), -5)
         twice_then_none = build(put("cube", 0, 0, 0), put("cube", 0, 0, 0), put("cube", 0, 64, 0))
-        self.both(CATALOGUE, text(twice_then_none), -5)
+        self.all_refused(CATALOGUE, text(twice_then_none), -5)
 
     def test_not_right_before_what_cannot_be_built(self):
-        self.both(CATALOGUE, text(build(put("cube", 0, 0, 5), put("cube", 0, 0, 5))), -9)
+        self.all_refused(CATALOGUE, text(build(put("cube", 0, 0, 5), put("cube", 0, 0, 5))), -9)
+        ringed = (put("clamp", 0, 0, 0), put("cube", 1, 0, 1))
+        self.all_refused(CATALOGUE, text(build(*ringed, put("cube", 1, 0, 1))), -9)
+        self.all_refused(CATALOGUE, text(build(*ringed, put("long", 62, 0, 0))), -9)
+        self.all_refused(CATALOGUE, text(build(*ringed, put("stud", 9, 9, 0), put("cube", 9, 9, 1))), -9)
 
-    def test_no_refusal_of_what_cannot_be_built(self):
-        hovering = text(build(put("cube", 0, 0, 5), put("cube", 0, 0, 7)))
-        self.assertEqual(over(1, 0, CATALOGUE, hovering), [1])
-        self.assertEqual(over(2, 0, CATALOGUE, hovering), [-4])
-        self.assertEqual(can(CATALOGUE, hovering), [1, 2, 0])
-        ring = text(build(put("clamp", 0, 0, 0), put("cube", 1, 0, 1)))
-        self.assertEqual(over(0, 1, CATALOGUE, ring), [1])
-        self.assertEqual(can(CATALOGUE, ring), [1, 1, 0])
+    def test_over_and_can_answer_of_what_cannot_be_built(self):
+        self.assertEqual(over(1, 0, CATALOGUE, HOVERING), [1])
+        self.assertEqual(over(2, 0, CATALOGUE, HOVERING), [-4])
+        self.assertEqual(can(CATALOGUE, HOVERING), [1, 2, 0])
+        self.assertEqual(over(0, 1, CATALOGUE, RING), [1])
+        self.assertEqual(can(CATALOGUE, RING), [1, 1, 0])
 
 
 class Untouched(unittest.TestCase):
-    pairs = [
-        (c, b)
-        for c in (NO_CATALOGUE, NOT_RIGHT_CATALOGUE, CATALOGUE)
-        for b in (TOO_LONG[:16400], NO_BUILD, NOT_RIGHT_BUILD, BUILD)
-    ]
+    pairs = [(c, b) for c in CATALOGUES for b in BUILDS]
 
     def test_lists_stay_the_same(self):
         for c, b in self.pairs:
             c_before, b_before = list(c), list(b)
-            can(c, b)
-            over(1, 0, c, b)
-            over(MOST, 0, c, b)
+            each_answer(c, b)
             self.assertEqual(c, c_before)
             self.assertEqual(b, b_before)
+
+    def test_rows_stay_the_same(self):
+        for c, b in self.pairs:
+            for row in ROWS + LONG_ROWS:
+                handed_in = list(row)
+                checks(c, b, handed_in)
+                self.assertEqual(handed_in, list(row))
 
     def test_lists_are_never_written_to(self):
         for c, b in self.pairs:
             c, b = ReadOnly(c), ReadOnly(b)
-            can(c, b)
-            over(1, 0, c, b)
+            each_answer(c, b)
+            for row in ROWS + LONG_ROWS:
+                checks(c, b, ReadOnly(row))
 
     def test_same_answer_twice(self):
-        first = [can(c, b) + over(1, 0, c, b) for c, b in self.pairs]
-        second = [can(c, b) + over(1, 0, c, b) for c, b in reversed(self.pairs)]
+        first = [each_answer(c, b) for c, b in self.pairs]
+        second = [each_answer(c, b) for c, b in reversed(self.pairs)]
         self.assertEqual(first, second[::-1])
 
     def test_answers_are_new_lists(self):
-        answer = can(CATALOGUE, BUILD)
-        answer.append(7)
-        self.assertEqual(can(CATALOGUE, BUILD), [0])
-        answer = over(1, 0, CATALOGUE, BUILD)
-        answer.append(7)
-        self.assertEqual(over(1, 0, CATALOGUE, BUILD), [1])
+        before = each_answer(CATALOGUE, BUILD)
+        for answer in each_answer(CATALOGUE, BUILD):
+            answer.append(7)
+        self.assertEqual(each_answer(CATALOGUE, BUILD), before)
+
+    def test_the_row_handed_in_is_not_the_answer(self):
+        row = [0]
+        self.assertIsNot(checks(CATALOGUE, BUILD, row), row)
 
     def test_answers_are_lists_of_whole_numbers(self):
         for c, b in self.pairs:
-            for answer in (can(c, b), over(1, 0, c, b), over(0, 0, c, b)):
+            for answer in each_answer(c, b) + [checks(c, b, list(LONG_ROWS[0]))]:
                 self.assertIs(type(answer), list)
                 self.assertTrue(all(type(number) is int for number in answer))
 

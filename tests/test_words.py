@@ -7,7 +7,7 @@ import itertools
 import random
 import unittest
 
-from tests.helper import build, can_of, over_of, part, put
+from tests.helper import MOST, build, can_of, checks_of, order_of, over_of, part, put
 
 SHAPES = {
     "bent": ["#./##"],
@@ -102,6 +102,14 @@ def expected_can(lines, pairs):
     return [0]
 
 
+def expected_checks(row, count, pairs):
+    for place, line in enumerate(row):
+        before = row[:place]
+        if line >= count or line in before or any(i == line and j not in before for i, j in pairs):
+            return [1, place]
+    return [0] if len(row) == count else [1, len(row)]
+
+
 def any_line(source):
     name = source.choice(sorted(SHAPES))
     return (name, source.randrange(SMALL_ROOM), source.randrange(SMALL_ROOM), source.choice((0, 0, 1, 2)), source.randrange(4))
@@ -123,6 +131,34 @@ def some_right_lines(source, count):
             lines.append(line)
     source.shuffle(lines)
     return lines
+
+
+def some_buildable_lines(source, count):
+    """Told in any order, so that a line often comes ahead of those that it is over."""
+    lines = []
+    for attempt in range(count * 20):
+        more = lines + [any_line(source)]
+        if len(lines) < count and is_right(more) and expected_can(more, over_pairs(more)) == [0]:
+            lines = more
+    source.shuffle(lines)
+    return lines
+
+
+def any_row(source, count, row):
+    """A row that is an order, changed at one or two places, or not at all."""
+    row = list(row)
+    for change in range(source.randrange(3)):
+        place = source.randrange(len(row) + 1)
+        kind = source.randrange(4)
+        if kind == 0:
+            row.insert(place, source.choice(list(range(count + 1)) + [MOST]))
+        elif kind == 1:
+            del row[place:place + 1]
+        elif kind == 2:
+            row[place:place + 1] = [source.randrange(count + 2)]
+        else:
+            row[place:place + 2] = row[place:place + 2][::-1]
+    return row
 
 
 class Words(unittest.TestCase):
@@ -162,6 +198,92 @@ class Words(unittest.TestCase):
             seen[(ordered, held)] = seen.get((ordered, held), 0) + 1
             self.assertEqual(can_of(CATALOGUE, written(lines)) == [0], ordered and held, lines)
         self.assertEqual(len(seen), 4, seen)
+
+
+class Orders(unittest.TestCase):
+    def test_d1_first_order_is_one_and_none_is_before_it(self):
+        source = random.Random(4)
+        seen = {}
+        for attempt in range(250):
+            lines = some_buildable_lines(source, source.randrange(7))
+            found = list(orders(len(lines), over_pairs(lines)))
+            answer = order_of(CATALOGUE, written(lines))
+            self.assertEqual(answer, list(min(found)), lines)
+            self.assertEqual(checks_of(answer, CATALOGUE, written(lines)), [0], lines)
+            by_numbers = answer == sorted(answer)
+            seen[by_numbers] = seen.get(by_numbers, 0) + 1
+        self.assertTrue(min(seen[True], seen[False]) > 50, seen)
+
+    def test_refused_just_if_it_cannot_be_built(self):
+        source = random.Random(5)
+        seen = {True: 0, False: 0}
+        for attempt in range(300):
+            lines = some_right_lines(source, source.randrange(7))
+            hindered = expected_can(lines, over_pairs(lines)) != [0]
+            seen[hindered] += 1
+            self.assertEqual(order_of(CATALOGUE, written(lines)) == [-3], hindered, lines)
+            self.assertEqual(checks_of([], CATALOGUE, written(lines)) == [-3], hindered, lines)
+        self.assertTrue(min(seen.values()) > 50, seen)
+
+    def test_checks_of_all_rows_of_the_lines(self):
+        source = random.Random(6)
+        for attempt in range(30):
+            lines = some_buildable_lines(source, source.randrange(2, 6))
+            found = list(orders(len(lines), over_pairs(lines)))
+            for row in itertools.permutations(range(len(lines))):
+                answer = checks_of(list(row), CATALOGUE, written(lines))
+                self.assertEqual(answer == [0], row in found, (lines, row))
+
+    def test_checks_of_any_rows(self):
+        source = random.Random(7)
+        seen = {}
+        for attempt in range(150):
+            lines = some_buildable_lines(source, source.randrange(8))
+            pairs = over_pairs(lines)
+            first = order_of(CATALOGUE, written(lines))
+            for change in range(10):
+                row = any_row(source, len(lines), first)
+                expected = expected_checks(row, len(lines), pairs)
+                self.assertEqual(checks_of(row, CATALOGUE, written(lines)), expected, (lines, row))
+                kind = "order" if expected == [0] else "missing" if expected[1] == len(row) else "wrong"
+                seen[kind] = seen.get(kind, 0) + 1
+        self.assertTrue(len(seen) == 3 and min(seen.values()) > 100, seen)
+
+    def grown(self, beginning, lines):
+        """The beginnings that are one line longer and still right, as checks tells it."""
+        longer = [beginning + [line] for line in range(len(lines))]
+        return [row for row in longer if checks_of(row, CATALOGUE, written(lines)) in ([0], [1, len(row)])]
+
+    def all_orders_by_growing(self, lines):
+        beginnings = [[]]
+        for length in range(len(lines)):
+            further = [self.grown(beginning, lines) for beginning in beginnings]
+            self.assertTrue(all(further), "a right beginning that can't be ended")
+            beginnings = [row for rows in further for row in rows]
+        return beginnings
+
+    def test_d2_an_order_begun_right_can_be_ended(self):
+        source = random.Random(9)
+        for attempt in range(25):
+            lines = some_buildable_lines(source, source.randrange(6))
+            ended = self.all_orders_by_growing(lines)
+            for row in ended:
+                self.assertEqual(checks_of(row, CATALOGUE, written(lines)), [0], (lines, row))
+            self.assertEqual(ended, [list(row) for row in orders(len(lines), over_pairs(lines))], lines)
+
+    def test_d4_in_each_beginning_each_line_has_its_hold(self):
+        source = random.Random(10)
+        lying = 0
+        for attempt in range(60):
+            lines = some_buildable_lines(source, source.randrange(1, 6))
+            rows = [list(row) for row in itertools.permutations(range(len(lines)))]
+            taken = [row for row in rows if checks_of(row, CATALOGUE, written(lines)) == [0]]
+            for row in taken + [order_of(CATALOGUE, written(lines))]:
+                for place, line in enumerate(row):
+                    begun = [lines[number] for number in row[:place + 1]]
+                    self.assertTrue(has_hold(place, begun), (lines, row))
+                    lying += not any(z == 0 for x, y, z in cells_of(lines[line]))
+        self.assertTrue(lying > 100, lying)
 
 
 if __name__ == "__main__":
