@@ -3,6 +3,7 @@
 from laystones.catalogues import is_right_catalogue, read_catalogue
 from laystones.lines import read_lines
 from laystones.orders import first_order, first_wrong_place
+from laystones.pages import lines_off_before, pages_of_lines
 from laystones.rooms import owners_of_places
 from laystones.stacks import is_in_mask, least_line_in_ring, least_line_without_hold, lines_under
 
@@ -114,3 +115,17 @@ def checks(c, b, o):
     if place is None:
         return [0]
     return [1, place]
+
+
+def page(i, c, b):
+    build = that_can_be_built(with_line(i, read_build(c, b)))
+    if build.refusal < 0:
+        return [build.refusal]
+    return [pages_of_lines(build.under)[i]]
+
+
+def off(i, c, b):
+    build = that_can_be_built(with_line(i, read_build(c, b)))
+    if build.refusal < 0:
+        return [build.refusal]
+    return lines_off_before(i, build.under)

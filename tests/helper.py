@@ -1,6 +1,6 @@
 """Small makers of texts, shared by the tests."""
 
-from laystones.builds import can, checks, order, over
+from laystones.builds import can, checks, off, order, over, page
 
 
 def text(letters):
@@ -37,6 +37,14 @@ def order_of(catalogue, written_build):
 
 def checks_of(row, catalogue, written_build):
     return checks(text(catalogue), text(written_build), row)
+
+
+def page_of(i, catalogue, written_build):
+    return page(i, text(catalogue), text(written_build))
+
+
+def off_of(i, catalogue, written_build):
+    return off(i, text(catalogue), text(written_build))
 
 
 def snake_puts():

@@ -155,6 +155,8 @@ class Interface(unittest.TestCase):
         self.assertEqual(arguments["can"], ["c", "b"])
         self.assertEqual(arguments["order"], ["c", "b"])
         self.assertEqual(arguments["checks"], ["c", "b", "o"])
+        self.assertEqual(arguments["page"], ["i", "c", "b"])
+        self.assertEqual(arguments["off"], ["i", "c", "b"])
 
 
 if __name__ == "__main__":

@@ -2,7 +2,7 @@
 
 import unittest
 
-from laystones.builds import can, checks, order, over
+from laystones.builds import can, checks, off, order, over, page
 from tests.helper import MOST, PARTS, build, part, put, text
 
 NO_CATALOGUE = text("part a 1 1 1 0\n#\n")
@@ -20,6 +20,7 @@ CATALOGUES = ([], NO_CATALOGUE, NOT_RIGHT_CATALOGUE, CATALOGUE)
 BUILDS = ([], TOO_LONG, NO_BUILD, NOT_RIGHT_BUILD, HOVERING, RING, BUILD)
 
 # Lines that are there, and lines that are not.
+LINES = (0, 1, 2, MOST)
 LINE_PAIRS = ((0, 0), (1, 0), (0, 2), (0, MOST), (MOST, 0), (MOST, MOST))
 # An order, and rows that are none.
 ROWS = ((0, 1), (1, 0), (), (0,), (2,), (MOST,), (0,) * 256)
@@ -31,6 +32,8 @@ def each_answer(c, b):
     answers = [can(c, b), order(c, b)]
     answers += [over(i, j, c, b) for i, j in LINE_PAIRS]
     answers += [checks(c, b, list(row)) for row in ROWS]
+    answers += [page(i, c, b) for i in LINES]
+    answers += [off(i, c, b) for i in LINES]
     return answers
 
 
@@ -68,18 +71,32 @@ class Refusals(unittest.TestCase):
     def test_line_behind_these(self):
         self.assertEqual(over(1, 0, CATALOGUE, BUILD), [1])
         self.assertEqual(over(2, 0, CATALOGUE, BUILD), [-4])
+        for line in (2, 3, 255, 256, MOST):
+            self.assertEqual(page(line, CATALOGUE, BUILD), [-4])
+            self.assertEqual(off(line, CATALOGUE, BUILD), [-4])
+
+    def test_line_ahead_of_what_cannot_be_built(self):
+        for b in (HOVERING, RING):
+            for line in (2, 3, 255, 256, MOST):
+                self.assertEqual(page(line, CATALOGUE, b), [-4])
+                self.assertEqual(off(line, CATALOGUE, b), [-4])
 
     def test_what_cannot_be_built_last(self):
         for b in (HOVERING, RING):
             self.assertEqual(order(CATALOGUE, b), [-3])
             for row in ROWS:
                 self.assertEqual(checks(CATALOGUE, b, list(row)), [-3])
+            for line in (0, 1):
+                self.assertEqual(page(line, CATALOGUE, b), [-3])
+                self.assertEqual(off(line, CATALOGUE, b), [-3])
 
     def test_nothing_to_refuse(self):
         self.assertEqual(can(CATALOGUE, BUILD), [0])
         self.assertEqual(order(CATALOGUE, BUILD), [0, 1])
         self.assertEqual(checks(CATALOGUE, BUILD, [0, 1]), [0])
         self.assertEqual(checks(CATALOGUE, BUILD, [1, 0]), [1, 0])
+        self.assertEqual([page(line, CATALOGUE, BUILD) for line in (0, 1)], [[0], [1]])
+        self.assertEqual([off(line, CATALOGUE, BUILD) for line in (0, 1)], [[1], []])
 
     def test_whole_catalogue_text_before_its_parts(self):
         wrong_then_none = part("a", "#.#") + "part b 1 1 1 1\n"
@@ -104,6 +121,36 @@ class Refusals(unittest.TestCase):
         self.assertEqual(can(CATALOGUE, HOVERING), [1, 2, 0])
         self.assertEqual(over(0, 1, CATALOGUE, RING), [1])
         self.assertEqual(can(CATALOGUE, RING), [1, 1, 0])
+
+
+class PageAndOff(unittest.TestCase):
+    def both_refused(self, line, b, refusal):
+        self.assertEqual(page(line, CATALOGUE, text(b)), [refusal])
+        self.assertEqual(off(line, CATALOGUE, text(b)), [refusal])
+
+    def test_no_such_line(self):
+        for line in (3, 4, 64, 255, 256, 2 ** 63, MOST):
+            self.both_refused(line, build(put("cube", 0, 0, 0), put("cube", 0, 0, 1), put("cube", 5, 0, 0)), -4)
+
+    def test_no_lines(self):
+        for line in (0, 1, 256, MOST):
+            self.both_refused(line, build(), -4)
+
+    def cannot_be_built(self, *puts):
+        for line in range(len(puts)):
+            self.both_refused(line, build(*puts), -3)
+        for line in (len(puts), len(puts) + 1, MOST):
+            self.both_refused(line, build(*puts), -4)
+
+    def test_ring(self):
+        self.cannot_be_built(put("clamp", 0, 0, 0), put("cube", 1, 0, 1))
+        self.cannot_be_built(put("step", 0, 0, 0), put("wind", 1, 0, 0), put("wine", 0, 0, 0))
+        self.cannot_be_built(put("cube", 9, 9, 0), put("clamp", 0, 0, 0), put("cube", 1, 0, 1))
+
+    def test_line_without_a_hold(self):
+        self.cannot_be_built(put("cube", 0, 0, 1))
+        self.cannot_be_built(put("cube", 0, 0, 0), put("cube", 0, 0, 2))
+        self.cannot_be_built(put("cube", 9, 9, 9), put("cube", 0, 0, 0), put("cube", 0, 0, 1))
 
 
 class Untouched(unittest.TestCase):

@@ -7,7 +7,7 @@ import itertools
 import random
 import unittest
 
-from tests.helper import MOST, build, can_of, checks_of, order_of, over_of, part, put
+from tests.helper import MOST, build, can_of, checks_of, off_of, order_of, over_of, page_of, part, put
 
 SHAPES = {
     "bent": ["#./##"],
@@ -108,6 +108,17 @@ def expected_checks(row, count, pairs):
         if line >= count or line in before or any(i == line and j not in before for i, j in pairs):
             return [1, place]
     return [0] if len(row) == count else [1, len(row)]
+
+
+def expected_page(line, pairs):
+    return max([1 + expected_page(j, pairs) for i, j in pairs if i == line], default=0)
+
+
+def expected_off(line, pairs):
+    found = {i for i, j in pairs if j == line}
+    while not {i for i, j in pairs if j in found} <= found:
+        found |= {i for i, j in pairs if j in found}
+    return sorted(found)
 
 
 def any_line(source):
@@ -284,6 +295,65 @@ class Orders(unittest.TestCase):
                     self.assertTrue(has_hold(place, begun), (lines, row))
                     lying += not any(z == 0 for x, y, z in cells_of(lines[line]))
         self.assertTrue(lying > 100, lying)
+
+
+class PagesAndOff(unittest.TestCase):
+    def test_page_and_off(self):
+        source = random.Random(13)
+        pages, lengths = {}, {}
+        for attempt in range(150):
+            lines = some_buildable_lines(source, source.randrange(9))
+            pairs = over_pairs(lines)
+            for line in range(len(lines)):
+                page, off = expected_page(line, pairs), expected_off(line, pairs)
+                self.assertEqual(page_of(line, CATALOGUE, written(lines)), [page], (lines, line))
+                self.assertEqual(off_of(line, CATALOGUE, written(lines)), off, (lines, line))
+                pages[page] = pages.get(page, 0) + 1
+                lengths[len(off)] = lengths.get(len(off), 0) + 1
+        self.assertTrue(len(pages) > 3 and len(lengths) > 3, (pages, lengths))
+
+    def test_refused_just_if_it_cannot_be_built(self):
+        source = random.Random(14)
+        seen = {True: 0, False: 0}
+        for attempt in range(300):
+            lines = some_right_lines(source, source.randrange(1, 7))
+            hindered = expected_can(lines, over_pairs(lines)) != [0]
+            seen[hindered] += 1
+            for line in range(len(lines)):
+                self.assertEqual(page_of(line, CATALOGUE, written(lines)) == [-3], hindered, lines)
+                self.assertEqual(off_of(line, CATALOGUE, written(lines)) == [-3], hindered, lines)
+            self.assertEqual(page_of(len(lines), CATALOGUE, written(lines)), [-4], lines)
+            self.assertEqual(off_of(len(lines), CATALOGUE, written(lines)), [-4], lines)
+        self.assertTrue(min(seen.values()) > 30, seen)
+
+    def test_d5_page_and_off_tell_one_another(self):
+        source = random.Random(15)
+        seen = {True: 0, False: 0}
+        for attempt in range(100):
+            lines = some_buildable_lines(source, source.randrange(1, 7))
+            numbers = range(len(lines))
+            rows = list(orders(len(lines), over_pairs(lines)))
+            pages = [page_of(line, CATALOGUE, written(lines))[0] for line in numbers]
+            for i in numbers:
+                off = off_of(i, CATALOGUE, written(lines))
+                for j in numbers:
+                    always = i != j and all(row.index(i) < row.index(j) for row in rows)
+                    seen[always] += 1
+                    self.assertEqual(j in off, always, (lines, i, j))
+                    self.assertTrue(not always or pages[j] > pages[i], (lines, i, j))
+        self.assertTrue(min(seen.values()) > 100, seen)
+
+    def test_d5_taken_off_from_the_last_page_down(self):
+        # Put in by rising pages, no line comes too early; taken off by falling ones, none either.
+        source = random.Random(16)
+        for attempt in range(100):
+            lines = some_buildable_lines(source, source.randrange(9))
+            numbers = range(len(lines))
+            rising = sorted(numbers, key=lambda line: page_of(line, CATALOGUE, written(lines))[0])
+            self.assertEqual(checks_of(rising, CATALOGUE, written(lines)), [0], lines)
+            for place, line in enumerate(rising):
+                off = off_of(line, CATALOGUE, written(lines))
+                self.assertTrue(set(off) <= set(rising[place + 1:]), (lines, line))
 
 
 if __name__ == "__main__":
