@@ -1,14 +1,17 @@
 """The calls: each takes texts and numbers, and answers a list of numbers."""
 
 from laystones.catalogues import is_right_catalogue, read_catalogue
+from laystones.instructions import read_instructions, text_of_pages
 from laystones.lines import read_lines
 from laystones.orders import first_order, first_wrong_place
-from laystones.pages import lines_off_before, pages_of_lines
+from laystones.pages import lines_off_before, made_pages, pages_of_lines
 from laystones.rooms import owners_of_places
 from laystones.stacks import is_in_mask, least_line_in_ring, least_line_without_hold, lines_under
 
 MOST_BUILD_BYTES = 16384
+MOST_INSTRUCTIONS_BYTES = 65536
 MOST_ROW_NUMBERS = 256
+MOST_PAGE_LINES = 256
 
 OUT_OF_BOUNDS = -1
 TOO_LONG = -2
@@ -18,6 +21,7 @@ NO_BUILD_TEXT = -5
 NO_CATALOGUE_TEXT = -6
 CATALOGUE_NOT_RIGHT = -8
 BUILD_NOT_RIGHT = -9
+NO_INSTRUCTIONS_TEXT = -10
 
 IN_RING = 1
 WITHOUT_HOLD = 2
@@ -129,3 +133,22 @@ def off(i, c, b):
     if build.refusal < 0:
         return [build.refusal]
     return lines_off_before(i, build.under)
+
+
+def make(K, c, b):
+    if K < 1 or K > MOST_PAGE_LINES:
+        return [OUT_OF_BOUNDS]
+    build = that_can_be_built(read_build(c, b))
+    if build.refusal < 0:
+        return [build.refusal]
+    signs = text_of_pages(made_pages(K, build.under))
+    return [len(signs)] + signs
+
+
+def judge(t):
+    if len(t) > MOST_INSTRUCTIONS_BYTES:
+        return [TOO_LONG]
+    instructions = read_instructions(t)
+    if instructions.fault is not None:
+        return [NO_INSTRUCTIONS_TEXT, instructions.fault]
+    return [len(instructions.pages)]

@@ -11,6 +11,11 @@ def may_come_next(line, before, under):
     return not is_in_mask(line, before) and (under[line] & ~before) == 0
 
 
+def lines_next(before, under):
+    """All lines that may come behind those of the mask, rising."""
+    return [line for line in range(len(under)) if may_come_next(line, before, under)]
+
+
 def least_line_next(before, under):
     """The least line that may come behind those of the mask; None if none may."""
     for line in range(len(under)):

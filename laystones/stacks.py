@@ -11,6 +11,13 @@ def mask_of(line):
     return 1 << line
 
 
+def mask_of_lines(lines):
+    mask = 0
+    for line in lines:
+        mask = mask | mask_of(line)
+    return mask
+
+
 def is_in_mask(line, mask):
     return (mask & mask_of(line)) != 0
 

@@ -1,6 +1,6 @@
 """Small makers of texts, shared by the tests."""
 
-from laystones.builds import can, checks, off, order, over, page
+from laystones.builds import can, checks, judge, make, off, order, over, page
 
 
 def text(letters):
@@ -21,6 +21,10 @@ def put(name, x, y, z, r=0, colour=0):
 
 def build(*puts):
     return "build house\n" + "".join(puts)
+
+
+def instructions(*pages):
+    return "".join("page" + "".join(f" {line}" for line in lines) + "\n" for lines in pages)
 
 
 def can_of(catalogue, written_build):
@@ -45,6 +49,14 @@ def page_of(i, catalogue, written_build):
 
 def off_of(i, catalogue, written_build):
     return off(i, text(catalogue), text(written_build))
+
+
+def make_of(K, catalogue, written_build):
+    return make(K, text(catalogue), text(written_build))
+
+
+def judge_of(letters):
+    return judge(text(letters))
 
 
 def snake_puts():

@@ -157,6 +157,8 @@ class Interface(unittest.TestCase):
         self.assertEqual(arguments["checks"], ["c", "b", "o"])
         self.assertEqual(arguments["page"], ["i", "c", "b"])
         self.assertEqual(arguments["off"], ["i", "c", "b"])
+        self.assertEqual(arguments["make"], ["K", "c", "b"])
+        self.assertEqual(arguments["judge"], ["t"])
 
 
 if __name__ == "__main__":

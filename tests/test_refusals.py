@@ -2,8 +2,8 @@
 
 import unittest
 
-from laystones.builds import can, checks, off, order, over, page
-from tests.helper import MOST, PARTS, build, part, put, text
+from laystones.builds import can, checks, judge, make, off, order, over, page
+from tests.helper import MOST, PARTS, build, instructions, part, put, text
 
 NO_CATALOGUE = text("part a 1 1 1 0\n#\n")
 NOT_RIGHT_CATALOGUE = text(part("cube", "#.#"))
@@ -25,15 +25,24 @@ LINE_PAIRS = ((0, 0), (1, 0), (0, 2), (0, MOST), (MOST, 0), (MOST, MOST))
 # An order, and rows that are none.
 ROWS = ((0, 1), (1, 0), (), (0,), (2,), (MOST,), (0,) * 256)
 LONG_ROWS = ((0,) * 257, (MOST,) * 257, tuple(range(300)))
+# How many lines a page may have at most, and what is no such number.
+PAGE_BOUNDS = (1, 2, 256)
+NO_PAGE_BOUNDS = (0, 257, MOST)
+
+INSTRUCTIONS = text(instructions([0], [1]))
+NO_INSTRUCTIONS = text("page 1 1\n")
+LONG_INSTRUCTIONS = INSTRUCTIONS + [10] * (65537 - len(INSTRUCTIONS))
+INSTRUCTION_TEXTS = ([], NO_INSTRUCTIONS, LONG_INSTRUCTIONS, INSTRUCTIONS)
 
 
 def each_answer(c, b):
-    """What every call answers to these texts, but to rows that are too long."""
+    """What every call with these texts answers, but to rows and numbers that are refused ahead of the texts."""
     answers = [can(c, b), order(c, b)]
     answers += [over(i, j, c, b) for i, j in LINE_PAIRS]
     answers += [checks(c, b, list(row)) for row in ROWS]
     answers += [page(i, c, b) for i in LINES]
     answers += [off(i, c, b) for i in LINES]
+    answers += [make(K, c, b) for K in PAGE_BOUNDS]
     return answers
 
 
@@ -47,6 +56,12 @@ class Refusals(unittest.TestCase):
             for b in BUILDS:
                 for row in LONG_ROWS:
                     self.assertEqual(checks(c, b, list(row)), [-1])
+
+    def test_page_bound_ahead_of_all(self):
+        for c in CATALOGUES:
+            for b in BUILDS:
+                for K in NO_PAGE_BOUNDS:
+                    self.assertEqual(make(K, c, b), [-1])
 
     def test_length_first(self):
         for c in CATALOGUES:
@@ -86,6 +101,8 @@ class Refusals(unittest.TestCase):
             self.assertEqual(order(CATALOGUE, b), [-3])
             for row in ROWS:
                 self.assertEqual(checks(CATALOGUE, b, list(row)), [-3])
+            for K in PAGE_BOUNDS:
+                self.assertEqual(make(K, CATALOGUE, b), [-3])
             for line in (0, 1):
                 self.assertEqual(page(line, CATALOGUE, b), [-3])
                 self.assertEqual(off(line, CATALOGUE, b), [-3])
@@ -97,6 +114,12 @@ class Refusals(unittest.TestCase):
         self.assertEqual(checks(CATALOGUE, BUILD, [1, 0]), [1, 0])
         self.assertEqual([page(line, CATALOGUE, BUILD) for line in (0, 1)], [[0], [1]])
         self.assertEqual([off(line, CATALOGUE, BUILD) for line in (0, 1)], [[1], []])
+        for K in PAGE_BOUNDS:
+            self.assertEqual(make(K, CATALOGUE, BUILD), [len(INSTRUCTIONS)] + INSTRUCTIONS)
+        self.assertEqual(judge(INSTRUCTIONS), [2])
+
+    def test_judge(self):
+        self.assertEqual([judge(t) for t in INSTRUCTION_TEXTS], [[-10, 0], [-10, 8], [-2], [2]])
 
     def test_whole_catalogue_text_before_its_parts(self):
         wrong_then_none = part("a", "#.#") + "part b 1 1 1 1\n"
@@ -170,6 +193,13 @@ class Untouched(unittest.TestCase):
                 checks(c, b, handed_in)
                 self.assertEqual(handed_in, list(row))
 
+    def test_instructions_stay_the_same(self):
+        for t in INSTRUCTION_TEXTS:
+            t_before = list(t)
+            judge(t)
+            self.assertEqual(t, t_before)
+            judge(ReadOnly(t))
+
     def test_lists_are_never_written_to(self):
         for c, b in self.pairs:
             c, b = ReadOnly(c), ReadOnly(b)
@@ -180,6 +210,9 @@ class Untouched(unittest.TestCase):
     def test_same_answer_twice(self):
         first = [each_answer(c, b) for c, b in self.pairs]
         second = [each_answer(c, b) for c, b in reversed(self.pairs)]
+        self.assertEqual(first, second[::-1])
+        first = [judge(t) for t in INSTRUCTION_TEXTS]
+        second = [judge(t) for t in reversed(INSTRUCTION_TEXTS)]
         self.assertEqual(first, second[::-1])
 
     def test_answers_are_new_lists(self):
@@ -194,9 +227,14 @@ class Untouched(unittest.TestCase):
 
     def test_answers_are_lists_of_whole_numbers(self):
         for c, b in self.pairs:
-            for answer in each_answer(c, b) + [checks(c, b, list(LONG_ROWS[0]))]:
-                self.assertIs(type(answer), list)
-                self.assertTrue(all(type(number) is int for number in answer))
+            for answer in each_answer(c, b) + [checks(c, b, list(LONG_ROWS[0])), make(0, c, b)]:
+                self.is_list_of_whole_numbers(answer)
+        for t in INSTRUCTION_TEXTS:
+            self.is_list_of_whole_numbers(judge(t))
+
+    def is_list_of_whole_numbers(self, answer):
+        self.assertIs(type(answer), list)
+        self.assertTrue(all(type(number) is int for number in answer))
 
 
 class ReadOnly(list):

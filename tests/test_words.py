@@ -7,7 +7,10 @@ import itertools
 import random
 import unittest
 
-from tests.helper import MOST, build, can_of, checks_of, off_of, order_of, over_of, page_of, part, put
+from laystones.builds import judge
+from tests.helper import (
+    MOST, build, can_of, checks_of, instructions, make_of, off_of, order_of, over_of, page_of, part, put, text,
+)
 
 SHAPES = {
     "bent": ["#./##"],
@@ -121,6 +124,49 @@ def expected_off(line, pairs):
     return sorted(found)
 
 
+def chains_over(line, pairs):
+    """All chains over the line, each a row of lines; the empty one too."""
+    longer = [[i] + chain for i, j in pairs if j == line for chain in chains_over(i, pairs)]
+    return [[]] + longer
+
+
+def expected_pages(K, count, pairs):
+    """The pages made by K."""
+    pages = []
+    left = set(range(count))
+    while left:
+        ready = {line for line in left if not any(i == line and j in left for i, j in pairs)}
+        chosen = set()
+        while len(chosen) < K and ready - chosen:
+            longest = max(len(chain) for line in ready - chosen for chain in chains_over(line, pairs))
+            chosen.add(min(
+                line for line in ready - chosen if longest in [len(chain) for chain in chains_over(line, pairs)]
+            ))
+        pages.append(sorted(chosen))
+        left -= chosen
+    return pages
+
+
+def expected_wrong(K, pages, count, pairs):
+    """What is wrong with the pages, as the words tell it: 0 alone if nothing is."""
+    for number, lines in enumerate(pages):
+        earlier = {line for page in pages[:number] for line in page}
+        if len(lines) > K:
+            return [1, 1, number, len(lines)]
+        twice = [line for line in lines if line >= count or line in earlier]
+        if twice:
+            return [1, 2, number, min(twice)]
+        early = [line for line in lines if any(i == line and j not in earlier for i, j in pairs)]
+        if early:
+            return [1, 3, number, min(early)]
+    missing = set(range(count)) - {line for page in pages for line in page}
+    return [1, 4, len(pages), min(missing)] if missing else [0]
+
+
+def pages_in(signs):
+    return [[int(word) for word in row.split(" ")[1:]] for row in bytes(signs).decode().splitlines()]
+
+
 def any_line(source):
     name = source.choice(sorted(SHAPES))
     return (name, source.randrange(SMALL_ROOM), source.randrange(SMALL_ROOM), source.choice((0, 0, 1, 2)), source.randrange(4))
@@ -210,6 +256,20 @@ class Words(unittest.TestCase):
             self.assertEqual(can_of(CATALOGUE, written(lines)) == [0], ordered and held, lines)
         self.assertEqual(len(seen), 4, seen)
 
+    def test_the_other_calls_are_refused_just_if_it_cannot_be_built(self):
+        source = random.Random(5)
+        seen = {True: 0, False: 0}
+        for attempt in range(300):
+            lines = some_right_lines(source, source.randrange(7))
+            hindered = expected_can(lines, over_pairs(lines)) != [0]
+            seen[hindered] += 1
+            told = (CATALOGUE, written(lines))
+            answers = [order_of(*told), checks_of([], *told), make_of(1, *told), make_of(256, *told)]
+            answers += [ask(line, *told) for line in range(len(lines)) for ask in (page_of, off_of)]
+            self.assertEqual([answer == [-3] for answer in answers], [hindered] * len(answers), lines)
+            self.assertEqual([ask(len(lines), *told) for ask in (page_of, off_of)], [[-4], [-4]], lines)
+        self.assertTrue(min(seen.values()) > 30, seen)
+
 
 class Orders(unittest.TestCase):
     def test_d1_first_order_is_one_and_none_is_before_it(self):
@@ -224,17 +284,6 @@ class Orders(unittest.TestCase):
             by_numbers = answer == sorted(answer)
             seen[by_numbers] = seen.get(by_numbers, 0) + 1
         self.assertTrue(min(seen[True], seen[False]) > 50, seen)
-
-    def test_refused_just_if_it_cannot_be_built(self):
-        source = random.Random(5)
-        seen = {True: 0, False: 0}
-        for attempt in range(300):
-            lines = some_right_lines(source, source.randrange(7))
-            hindered = expected_can(lines, over_pairs(lines)) != [0]
-            seen[hindered] += 1
-            self.assertEqual(order_of(CATALOGUE, written(lines)) == [-3], hindered, lines)
-            self.assertEqual(checks_of([], CATALOGUE, written(lines)) == [-3], hindered, lines)
-        self.assertTrue(min(seen.values()) > 50, seen)
 
     def test_checks_of_all_rows_of_the_lines(self):
         source = random.Random(6)
@@ -312,20 +361,6 @@ class PagesAndOff(unittest.TestCase):
                 lengths[len(off)] = lengths.get(len(off), 0) + 1
         self.assertTrue(len(pages) > 3 and len(lengths) > 3, (pages, lengths))
 
-    def test_refused_just_if_it_cannot_be_built(self):
-        source = random.Random(14)
-        seen = {True: 0, False: 0}
-        for attempt in range(300):
-            lines = some_right_lines(source, source.randrange(1, 7))
-            hindered = expected_can(lines, over_pairs(lines)) != [0]
-            seen[hindered] += 1
-            for line in range(len(lines)):
-                self.assertEqual(page_of(line, CATALOGUE, written(lines)) == [-3], hindered, lines)
-                self.assertEqual(off_of(line, CATALOGUE, written(lines)) == [-3], hindered, lines)
-            self.assertEqual(page_of(len(lines), CATALOGUE, written(lines)), [-4], lines)
-            self.assertEqual(off_of(len(lines), CATALOGUE, written(lines)), [-4], lines)
-        self.assertTrue(min(seen.values()) > 30, seen)
-
     def test_d5_page_and_off_tell_one_another(self):
         source = random.Random(15)
         seen = {True: 0, False: 0}
@@ -354,6 +389,48 @@ class PagesAndOff(unittest.TestCase):
             for place, line in enumerate(rising):
                 off = off_of(line, CATALOGUE, written(lines))
                 self.assertTrue(set(off) <= set(rising[place + 1:]), (lines, line))
+
+
+class Made(unittest.TestCase):
+    def test_made_as_the_words_say(self):
+        source = random.Random(18)
+        crowded = 0
+        for attempt in range(200):
+            lines = some_buildable_lines(source, source.randrange(10))
+            pairs = over_pairs(lines)
+            for K in (1, 2, 3, 4, 255, 256):
+                pages = expected_pages(K, len(lines), pairs)
+                expected = text(instructions(*pages))
+                answer = make_of(K, CATALOGUE, written(lines))
+                self.assertEqual(answer, [len(expected)] + expected, (lines, K))
+                crowded += pages != expected_pages(256, len(lines), pairs)
+        self.assertTrue(crowded > 200, crowded)
+
+    def test_d3_made_by_k_is_right(self):
+        source = random.Random(20)
+        for attempt in range(150):
+            lines = some_buildable_lines(source, source.randrange(1, 10))
+            for K in (1, 2, 3, 4, 255, 256):
+                count, *signs = make_of(K, CATALOGUE, written(lines))
+                self.assertEqual(len(signs), count)
+                pages = pages_in(signs)
+                self.assertEqual(judge(signs), [len(pages)], lines)
+                self.assertEqual(expected_wrong(K, pages, len(lines), over_pairs(lines)), [0], (lines, K))
+
+    def test_d3_by_256_each_line_is_on_its_page(self):
+        source = random.Random(21)
+        longest = {}
+        for attempt in range(150):
+            lines = some_buildable_lines(source, source.randrange(1, 9))
+            pages = pages_in(make_of(256, CATALOGUE, written(lines))[1:])
+            told = [page_of(line, CATALOGUE, written(lines)) for line in range(len(lines))]
+            found = [[number for number, page in enumerate(pages) if line in page] for line in range(len(lines))]
+            self.assertEqual(found, told, lines)
+            pairs = over_pairs(lines)
+            chains = [len(chain) + 1 for line in range(len(lines)) for chain in chains_over(line, pairs)]
+            self.assertEqual(len(pages), max(chains), lines)
+            longest[len(pages)] = longest.get(len(pages), 0) + 1
+        self.assertTrue(len(longest) > 3, longest)
 
 
 if __name__ == "__main__":
