@@ -4,7 +4,7 @@ from laystones.catalogues import is_right_catalogue, read_catalogue
 from laystones.instructions import read_instructions, text_of_pages
 from laystones.lines import read_lines
 from laystones.orders import first_order, first_wrong_place
-from laystones.pages import lines_off_before, made_pages, pages_of_lines
+from laystones.pages import first_wrong_page, lines_off_before, made_pages, pages_of_lines
 from laystones.rooms import owners_of_places
 from laystones.stacks import is_in_mask, least_line_in_ring, least_line_without_hold, lines_under
 
@@ -65,6 +65,13 @@ def with_line(i, build):
     return refused(NO_SUCH_LINE)
 
 
+def with_instructions(instructions, build):
+    """The build as it was read, but refused if the instructions' text is none."""
+    if build.refusal < 0 or instructions.fault is None:
+        return build
+    return refused(NO_INSTRUCTIONS_TEXT)
+
+
 def hindrance(build):
     """Why the build can't be built, and the least line of which that holds; None if it can."""
     ringed = least_line_in_ring(build.under)
@@ -81,6 +88,10 @@ def that_can_be_built(build):
     if build.refusal < 0 or hindrance(build) is None:
         return build
     return refused(CANNOT_BE_BUILT)
+
+
+def is_page_bound(K):
+    return 1 <= K <= MOST_PAGE_LINES
 
 
 def over(i, j, c, b):
@@ -136,7 +147,7 @@ def off(i, c, b):
 
 
 def make(K, c, b):
-    if K < 1 or K > MOST_PAGE_LINES:
+    if not is_page_bound(K):
         return [OUT_OF_BOUNDS]
     build = that_can_be_built(read_build(c, b))
     if build.refusal < 0:
@@ -152,3 +163,18 @@ def judge(t):
     if instructions.fault is not None:
         return [NO_INSTRUCTIONS_TEXT, instructions.fault]
     return [len(instructions.pages)]
+
+
+def right(K, c, b, t):
+    if not is_page_bound(K):
+        return [OUT_OF_BOUNDS]
+    if len(t) > MOST_INSTRUCTIONS_BYTES:
+        return [TOO_LONG]
+    instructions = read_instructions(t)
+    build = that_can_be_built(with_instructions(instructions, read_build(c, b)))
+    if build.refusal < 0:
+        return [build.refusal]
+    wrong = first_wrong_page(K, instructions.pages, build.under)
+    if wrong is None:
+        return [0]
+    return [1] + wrong

@@ -1,6 +1,6 @@
 """Small makers of texts, shared by the tests."""
 
-from laystones.builds import can, checks, judge, make, off, order, over, page
+from laystones.builds import can, checks, judge, make, off, order, over, page, right
 
 
 def text(letters):
@@ -57,6 +57,15 @@ def make_of(K, catalogue, written_build):
 
 def judge_of(letters):
     return judge(text(letters))
+
+
+def right_of(K, catalogue, written_build, pages):
+    return right(K, text(catalogue), text(written_build), text(instructions(*pages)))
+
+
+def stack(x, height):
+    """One cube above another."""
+    return [put("cube", x, 0, z) for z in range(height)]
 
 
 def snake_puts():

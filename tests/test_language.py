@@ -159,6 +159,7 @@ class Interface(unittest.TestCase):
         self.assertEqual(arguments["off"], ["i", "c", "b"])
         self.assertEqual(arguments["make"], ["K", "c", "b"])
         self.assertEqual(arguments["judge"], ["t"])
+        self.assertEqual(arguments["right"], ["K", "c", "b", "t"])
 
 
 if __name__ == "__main__":

@@ -4,13 +4,8 @@ import unittest
 
 from laystones.builds import judge
 from tests.helper import (
-    MOST, PARTS, build, instructions, judge_of, make_of, page_of, part, put, snake_puts, text,
+    MOST, PARTS, build, instructions, judge_of, make_of, page_of, part, put, snake_puts, stack, text,
 )
-
-
-def stack(x, height, y=0):
-    """One cube above another."""
-    return [put("cube", x, y, z) for z in range(height)]
 
 
 class Made(unittest.TestCase):

@@ -2,7 +2,7 @@
 
 import unittest
 
-from laystones.builds import can, checks, judge, make, off, order, over, page
+from laystones.builds import can, checks, judge, make, off, order, over, page, right
 from tests.helper import MOST, PARTS, build, instructions, part, put, text
 
 NO_CATALOGUE = text("part a 1 1 1 0\n#\n")
@@ -32,17 +32,19 @@ NO_PAGE_BOUNDS = (0, 257, MOST)
 INSTRUCTIONS = text(instructions([0], [1]))
 NO_INSTRUCTIONS = text("page 1 1\n")
 LONG_INSTRUCTIONS = INSTRUCTIONS + [10] * (65537 - len(INSTRUCTIONS))
-INSTRUCTION_TEXTS = ([], NO_INSTRUCTIONS, LONG_INSTRUCTIONS, INSTRUCTIONS)
+WRONG_INSTRUCTIONS = text(instructions([1], [0, 7]))
+INSTRUCTION_TEXTS = ([], NO_INSTRUCTIONS, LONG_INSTRUCTIONS, WRONG_INSTRUCTIONS, INSTRUCTIONS)
 
 
 def each_answer(c, b):
-    """What every call with these texts answers, but to rows and numbers that are refused ahead of the texts."""
+    """What every call with these texts answers, as long as what else is handed in isn't refused ahead of them."""
     answers = [can(c, b), order(c, b)]
     answers += [over(i, j, c, b) for i, j in LINE_PAIRS]
     answers += [checks(c, b, list(row)) for row in ROWS]
     answers += [page(i, c, b) for i in LINES]
     answers += [off(i, c, b) for i in LINES]
     answers += [make(K, c, b) for K in PAGE_BOUNDS]
+    answers += [right(K, c, b, t) for K in PAGE_BOUNDS for t in (INSTRUCTIONS, WRONG_INSTRUCTIONS)]
     return answers
 
 
@@ -62,10 +64,36 @@ class Refusals(unittest.TestCase):
             for b in BUILDS:
                 for K in NO_PAGE_BOUNDS:
                     self.assertEqual(make(K, c, b), [-1])
+                    for t in INSTRUCTION_TEXTS:
+                        self.assertEqual(right(K, c, b, t), [-1])
 
     def test_length_first(self):
         for c in CATALOGUES:
             self.all_refused(c, TOO_LONG, -2)
+
+    def test_just_long_enough_to_be_refused(self):
+        self.all_refused(CATALOGUE, TOO_LONG[:16384], -5)
+        self.all_refused(CATALOGUE, TOO_LONG[:16385], -2)
+
+    def test_length_of_instructions_first(self):
+        for c in CATALOGUES:
+            for b in BUILDS:
+                self.assertEqual(right(1, c, b, LONG_INSTRUCTIONS), [-2])
+            for t in INSTRUCTION_TEXTS:
+                self.assertEqual(right(1, c, TOO_LONG, t), [-2])
+
+    def test_instructions_behind_catalogue_and_build(self):
+        for t in ([], NO_INSTRUCTIONS):
+            for c in CATALOGUES:
+                for b in (b for b in BUILDS if b != TOO_LONG):
+                    refusal = can(c, b)[0]
+                    self.assertEqual(right(1, c, b, t), [refusal if refusal < 0 else -10])
+
+    def test_instructions_ahead_of_what_cannot_be_built(self):
+        for K in PAGE_BOUNDS:
+            for b in (HOVERING, RING, BUILD):
+                for t in ([], NO_INSTRUCTIONS):
+                    self.assertEqual(right(K, CATALOGUE, b, t), [-10])
 
     def test_catalogue_text_second(self):
         for c in ([], NO_CATALOGUE):
@@ -103,6 +131,8 @@ class Refusals(unittest.TestCase):
                 self.assertEqual(checks(CATALOGUE, b, list(row)), [-3])
             for K in PAGE_BOUNDS:
                 self.assertEqual(make(K, CATALOGUE, b), [-3])
+                self.assertEqual(right(K, CATALOGUE, b, INSTRUCTIONS), [-3])
+                self.assertEqual(right(K, CATALOGUE, b, WRONG_INSTRUCTIONS), [-3])
             for line in (0, 1):
                 self.assertEqual(page(line, CATALOGUE, b), [-3])
                 self.assertEqual(off(line, CATALOGUE, b), [-3])
@@ -116,10 +146,12 @@ class Refusals(unittest.TestCase):
         self.assertEqual([off(line, CATALOGUE, BUILD) for line in (0, 1)], [[1], []])
         for K in PAGE_BOUNDS:
             self.assertEqual(make(K, CATALOGUE, BUILD), [len(INSTRUCTIONS)] + INSTRUCTIONS)
+            self.assertEqual(right(K, CATALOGUE, BUILD, INSTRUCTIONS), [0])
+            self.assertEqual(right(K, CATALOGUE, BUILD, WRONG_INSTRUCTIONS), [1, 3, 0, 1])
         self.assertEqual(judge(INSTRUCTIONS), [2])
 
     def test_judge(self):
-        self.assertEqual([judge(t) for t in INSTRUCTION_TEXTS], [[-10, 0], [-10, 8], [-2], [2]])
+        self.assertEqual([judge(t) for t in INSTRUCTION_TEXTS], [[-10, 0], [-10, 8], [-2], [2], [2]])
 
     def test_whole_catalogue_text_before_its_parts(self):
         wrong_then_none = part("a", "#.#") + "part b 1 1 1 1\n"
@@ -197,8 +229,11 @@ class Untouched(unittest.TestCase):
         for t in INSTRUCTION_TEXTS:
             t_before = list(t)
             judge(t)
-            self.assertEqual(t, t_before)
             judge(ReadOnly(t))
+            for c, b in self.pairs:
+                right(1, c, b, t)
+                right(1, ReadOnly(c), ReadOnly(b), ReadOnly(t))
+            self.assertEqual(t, t_before)
 
     def test_lists_are_never_written_to(self):
         for c, b in self.pairs:
@@ -211,8 +246,11 @@ class Untouched(unittest.TestCase):
         first = [each_answer(c, b) for c, b in self.pairs]
         second = [each_answer(c, b) for c, b in reversed(self.pairs)]
         self.assertEqual(first, second[::-1])
-        first = [judge(t) for t in INSTRUCTION_TEXTS]
-        second = [judge(t) for t in reversed(INSTRUCTION_TEXTS)]
+
+    def test_same_answer_to_instructions_twice(self):
+        handed_in = [(K, c, b, t) for K in (0, 1, 256) for c, b in self.pairs for t in INSTRUCTION_TEXTS]
+        first = [(judge(t), right(K, c, b, t)) for K, c, b, t in handed_in]
+        second = [(judge(t), right(K, c, b, t)) for K, c, b, t in reversed(handed_in)]
         self.assertEqual(first, second[::-1])
 
     def test_answers_are_new_lists(self):
@@ -231,6 +269,7 @@ class Untouched(unittest.TestCase):
                 self.is_list_of_whole_numbers(answer)
         for t in INSTRUCTION_TEXTS:
             self.is_list_of_whole_numbers(judge(t))
+            self.is_list_of_whole_numbers(right(1, CATALOGUE, BUILD, t))
 
     def is_list_of_whole_numbers(self, answer):
         self.assertIs(type(answer), list)

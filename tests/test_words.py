@@ -9,7 +9,8 @@ import unittest
 
 from laystones.builds import judge
 from tests.helper import (
-    MOST, build, can_of, checks_of, instructions, make_of, off_of, order_of, over_of, page_of, part, put, text,
+    MOST, build, can_of, checks_of, instructions, make_of, off_of, order_of, over_of, page_of, part, put, right_of,
+    text,
 )
 
 SHAPES = {
@@ -25,6 +26,8 @@ SHAPES = {
 }
 CATALOGUE = "".join(part(name, *layers) for name, layers in SHAPES.items())
 SMALL_ROOM = 3
+# Above all that can be there: the highest shape begins at height 2 at most.
+SMALL_ROOM_HEIGHT = 6
 
 
 def cells_of(line):
@@ -167,6 +170,56 @@ def pages_in(signs):
     return [[int(word) for word in row.split(" ")[1:]] for row in bytes(signs).decode().splitlines()]
 
 
+def all_pages(count):
+    """All ways to put the lines into pages, each in one."""
+    for many in range(1, count + 1):
+        for chosen in itertools.product(range(many), repeat=count):
+            if len(set(chosen)) == many:
+                yield [[line for line in range(count) if chosen[line] == page] for page in range(many)]
+
+
+def can_be_put_down(line, there):
+    """Straight down from above, past what is there, onto the table or onto what is there."""
+    filled = {cell for other in there for cell in cells_of(other)}
+    for x, y, z in cells_of(line):
+        if any((x, y, height) in filled for height in range(z, SMALL_ROOM_HEIGHT)):
+            return False
+    return any(z == 0 or (x, y, z - 1) in filled for x, y, z in cells_of(line))
+
+
+def can_be_put_together(pages, lines):
+    """Page after page and line after line: whichever line of a page one takes first."""
+    there = []
+    for page in pages:
+        for row in itertools.permutations(page):
+            for place, number in enumerate(row):
+                if not can_be_put_down(lines[number], there + [lines[other] for other in row[:place]]):
+                    return False
+        there += [lines[number] for number in page]
+    return True
+
+
+def any_pages(source, count, pages):
+    """Pages that are right, changed at one or two places, or not at all."""
+    pages = [set(page) for page in pages]
+    for change in range(source.randrange(3)):
+        kind = source.randrange(5)
+        if kind == 0:
+            source.choice(pages).add(source.choice(list(range(count + 1)) + [255]))
+        elif kind == 1:
+            page = source.choice(pages)
+            page.discard(source.choice(sorted(page) or [0]))
+        elif kind == 2:
+            pages.insert(source.randrange(len(pages) + 1), {source.randrange(count + 1)})
+        elif kind == 3:
+            place = source.randrange(len(pages))
+            pages[place:place + 2] = pages[place:place + 2][::-1]
+        else:
+            place = source.randrange(len(pages))
+            pages[place:place + 2] = [set().union(*pages[place:place + 2])]
+    return [sorted(page) for page in pages if page] or [[0]]
+
+
 def any_line(source):
     name = source.choice(sorted(SHAPES))
     return (name, source.randrange(SMALL_ROOM), source.randrange(SMALL_ROOM), source.choice((0, 0, 1, 2)), source.randrange(4))
@@ -265,6 +318,7 @@ class Words(unittest.TestCase):
             seen[hindered] += 1
             told = (CATALOGUE, written(lines))
             answers = [order_of(*told), checks_of([], *told), make_of(1, *told), make_of(256, *told)]
+            answers += [right_of(1, *told, [[0]]), right_of(256, *told, [[7], [7]])]
             answers += [ask(line, *told) for line in range(len(lines)) for ask in (page_of, off_of)]
             self.assertEqual([answer == [-3] for answer in answers], [hindered] * len(answers), lines)
             self.assertEqual([ask(len(lines), *told) for ask in (page_of, off_of)], [[-4], [-4]], lines)
@@ -416,6 +470,7 @@ class Made(unittest.TestCase):
                 pages = pages_in(signs)
                 self.assertEqual(judge(signs), [len(pages)], lines)
                 self.assertEqual(expected_wrong(K, pages, len(lines), over_pairs(lines)), [0], (lines, K))
+                self.assertEqual(right_of(K, CATALOGUE, written(lines), pages), [0], (lines, K))
 
     def test_d3_by_256_each_line_is_on_its_page(self):
         source = random.Random(21)
@@ -431,6 +486,76 @@ class Made(unittest.TestCase):
             self.assertEqual(len(pages), max(chains), lines)
             longest[len(pages)] = longest.get(len(pages), 0) + 1
         self.assertTrue(len(longest) > 3, longest)
+
+    def test_d3_none_that_are_right_have_fewer_pages(self):
+        source = random.Random(22)
+        seen = {}
+        for attempt in range(25):
+            lines = some_buildable_lines(source, source.randrange(1, 5))
+            made, = judge(make_of(256, CATALOGUE, written(lines))[1:])
+            least = {}
+            for pages in all_pages(len(lines)):
+                for K in range(1, len(lines) + 1):
+                    if right_of(K, CATALOGUE, written(lines), pages) == [0]:
+                        least[K] = min(least.get(K, 256), len(pages))
+            self.assertEqual(min(least.values()), made, lines)
+            seen[(len(lines), made)] = seen.get((len(lines), made), 0) + 1
+        self.assertTrue(len(seen) > 5, seen)
+
+
+class Right(unittest.TestCase):
+    def test_right_as_the_words_say(self):
+        source = random.Random(23)
+        seen = {}
+        for attempt in range(200):
+            lines = some_buildable_lines(source, source.randrange(1, 9))
+            pairs = over_pairs(lines)
+            for change in range(12):
+                K = source.choice((1, 2, 3, 256))
+                pages = any_pages(source, len(lines), expected_pages(K, len(lines), pairs))
+                expected = expected_wrong(K, pages, len(lines), pairs)
+                self.assertEqual(right_of(K, CATALOGUE, written(lines), pages), expected, (lines, K, pages))
+                seen[expected[0] and expected[1]] = seen.get(expected[0] and expected[1], 0) + 1
+        self.assertTrue(len(seen) == 5 and min(seen.values()) > 50, seen)
+
+    def test_main_right_just_if_each_part_can_be_put_straight_down(self):
+        source = random.Random(24)
+        seen = {True: 0, False: 0}
+        for attempt in range(25):
+            lines = some_buildable_lines(source, source.randrange(1, 5))
+            for pages in all_pages(len(lines)):
+                together = can_be_put_together(pages, lines)
+                seen[together] += 1
+                for K in range(1, len(lines) + 1):
+                    expected = together and max(len(page) for page in pages) <= K
+                    answer = right_of(K, CATALOGUE, written(lines), pages)
+                    self.assertEqual(answer == [0], expected, (lines, K, pages))
+        self.assertTrue(min(seen.values()) > 100, seen)
+
+    def test_main_each_line_in_one_page(self):
+        source = random.Random(25)
+        seen = {True: 0, False: 0}
+        for attempt in range(200):
+            lines = some_buildable_lines(source, source.randrange(1, 6))
+            K = source.choice((1, 2, 256))
+            pages = any_pages(source, len(lines), expected_pages(K, len(lines), over_pairs(lines)))
+            each_once = sorted(line for page in pages for line in page) == list(range(len(lines)))
+            short = max(len(page) for page in pages) <= K
+            expected = each_once and short and can_be_put_together(pages, lines)
+            seen[expected] += 1
+            answer = right_of(K, CATALOGUE, written(lines), pages)
+            self.assertEqual(answer == [0], expected, (lines, K, pages))
+        self.assertTrue(min(seen.values()) > 30, seen)
+
+    def test_main_what_cannot_be_built_cannot_be_put_together(self):
+        source = random.Random(26)
+        hindered = 0
+        for attempt in range(150):
+            lines = some_right_lines(source, source.randrange(1, 5))
+            together = any(can_be_put_together(pages, lines) for pages in all_pages(len(lines)))
+            self.assertEqual(make_of(256, CATALOGUE, written(lines)) != [-3], together, lines)
+            hindered += not together
+        self.assertTrue(30 < hindered < 120, hindered)
 
 
 if __name__ == "__main__":
